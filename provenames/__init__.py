@@ -1,0 +1,1 @@
+"""Provenames: signed name zones and a validating resolver."""
