@@ -83,6 +83,42 @@ class PackageTest(unittest.TestCase):
             with self.subTest(path=path, line=node.lineno):
                 self.assertNotIn(node.id, barred)
 
+    def test_names_that_have_one_meaning(self):
+        for path, tree in self.trees.items():
+            taken = set(dir(builtins)) | {"register", "elements", "law", "id", "input", "open"}
+            for node in tree.body:
+                if isinstance(node, ast.ImportFrom):
+                    taken.update(alias.name for alias in node.names)
+                elif isinstance(node, ast.ClassDef):
+                    taken.add(node.name)
+            for node in ast.walk(tree):
+                if isinstance(node, ast.arg):
+                    bound = node.arg
+                elif isinstance(node, ast.Name) and isinstance(node.ctx, ast.Store):
+                    bound = node.id
+                else:
+                    continue
+                with self.subTest(path=path, line=node.lineno):
+                    self.assertNotIn(bound, taken)
+
+    def test_words_that_are_not_used(self):
+        barred = re.compile(r"\b(type|typing|enum|Enum|Flag|Generic|Protocol|ABC|namedtuple|NamedTuple)\b")
+        for path, node in self.nodes((ast.Name, ast.Attribute, ast.arg)):
+            with self.subTest(path=path, line=node.lineno):
+                name = getattr(node, "id", None) or getattr(node, "attr", None) or getattr(node, "arg", "")
+                self.assertIsNone(barred.search(name))
+
+    def test_files_do_not_import_in_a_circle(self):
+        imports = {path.stem: set() for path in self.files}
+        for path, node in self.nodes(ast.ImportFrom):
+            if node.module not in LIBRARY:
+                imports[path.stem].add(node.module.partition(".")[2])
+        while imports:
+            free = [name for name, wanted in imports.items() if not wanted & set(imports)]
+            self.assertNotEqual(free, [], imports)
+            for name in free:
+                del imports[name]
+
     def test_no_percent_sign_in_strings(self):
         for path, node in self.nodes(ast.Constant):
             if isinstance(node.value, str):
