@@ -27,6 +27,11 @@ FUNCTIONS = {
         "write_question": "(zone, name, kind)", "read_question": "(octets)",
         "write_reply": "(reply)", "read_reply": "(octets)",
     },
+    "rules": {
+        "covers": "(zone, gap_set, name)", "clears": "(zone, gap_set, name)",
+        "source": "(gap_set, name)", "follows": "(notary, anchors, time, facts, step)",
+    },
+    "check": {"check": "(notary, anchors, time, steps)"},
 }
 CLASSES = {
     "notary": {
@@ -53,6 +58,12 @@ CLASSES = {
         "Server": {
             "__init__": "(self)", "hold": "(self, edition)", "release": "(self, apex)",
             "reply": "(self, zone, name, kind)", "answer": "(self, octets)",
+        },
+    },
+    "network": {
+        "Network": {
+            "__init__": "(self)", "attach": "(self, address, server)", "bend": "(self, bend)",
+            "send": "(self, address, octets)", "__len__": "(self)",
         },
     },
 }
