@@ -268,6 +268,8 @@ class SignatureTest(FollowsTest):
         good = self.sign(self.text)
         self.assertFalse(self.by(good, fact=fact_of(other)))
         self.assertFalse(self.by(good, record_set=other))
+        # The signature is valid for the record set of the fact, but does not stand beside it.
+        self.assertFalse(self.by(good, record_set=other, fact=fact_of(self.text)))
         self.assertFalse(self.by(good, record_set=make_set(ORG, "text", 61, ["x"])))
         self.assertFalse(self.by(good, record_set=make_set(TREE, "text", 60, ["x"])))
 

@@ -32,6 +32,10 @@ FUNCTIONS = {
         "source": "(gap_set, name)", "follows": "(notary, anchors, time, facts, step)",
     },
     "check": {"check": "(notary, anchors, time, steps)"},
+    "search": {
+        "answers": "(notary, anchors, time, signed_sets, name, kind)",
+        "unlinked": "(notary, anchors, time, signed_sets)",
+    },
 }
 CLASSES = {
     "notary": {
@@ -64,6 +68,24 @@ CLASSES = {
         "Network": {
             "__init__": "(self)", "attach": "(self, address, server)", "bend": "(self, bend)",
             "send": "(self, address, octets)", "__len__": "(self)",
+        },
+    },
+    "received": {
+        "Received": {
+            "__init__": "(self)", "take": "(self, signed_set, time)", "live": "(self, time)",
+            "__len__": "(self)",
+        },
+    },
+    "resolver": {
+        "Resolver": {
+            "__init__": "(self, notary, network, *, anchors, roots)",
+            "resolve": "(self, name, kind, time)", "live": "(self, time)",
+        },
+        "Answer": {},
+    },
+    "desk": {
+        "Desk": {
+            "__init__": "(self, anchors)", "accept": "(self, edition)", "running": "(self, zone, time)",
         },
     },
 }
